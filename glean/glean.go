@@ -1,0 +1,86 @@
+// Package glean: a small language that gleans from lines: see DOC.md.
+package glean
+
+import (
+	"errors"
+	"slices"
+
+	"glean/layout"
+	"glean/limit"
+	"glean/patterns"
+	"glean/pieces"
+	"glean/value"
+)
+
+// Errno is what a call answers: OK, the reason for a refusal, or why a run ended early.
+type Errno int
+
+const (
+	OK        Errno = 0
+	ErrLong   Errno = 1  // a text, a list or a number beyond its bound
+	ErrForm   Errno = 2  // no program
+	ErrUse    Errno = 3  // a name, a call or a word that is used wrongly
+	ErrFuel   Errno = 4  // the steps are spent
+	ErrZero   Errno = 5  // a division by 0
+	ErrField  Errno = 6  // a field that there cannot be
+	ErrRegex  Errno = 7  // no pattern
+	ErrText   Errno = 8  // a text that has grown too long
+	ErrDeep   Errno = 9  // too many calls within calls
+	ErrFormat Errno = 10 // no format
+	ErrOut    Errno = 11 // too much put out
+)
+
+// Stream is what was put out to the stream of that name; the main one has the empty name.
+type Stream struct{ Name, Text string }
+
+// Match finds a pattern in a text (P3, P4).
+func Match(pattern string, text string) (int, int, Errno) {
+	if isLong(pattern) || isLong(text) {
+		return 0, 0, ErrLong
+	}
+	p, ok := patterns.Read(pattern)
+	if !ok {
+		return 0, 0, ErrRegex
+	}
+	at, length := p.Find(text, 0)
+	return at, length, OK
+}
+
+func isLong(text string) bool { return len(text) > limit.MaxText }
+
+// Split cuts a text into pieces (P5).
+func Split(text string, separator string) ([]string, Errno) {
+	if isLong(text) || isLong(separator) {
+		return []string{}, ErrLong
+	}
+	list, ok := pieces.Cut(text, separator)
+	if !ok {
+		return []string{}, ErrRegex
+	}
+	return list, OK
+}
+
+// Format makes a text of a format and arguments (P6).
+func Format(format string, args []string) (string, Errno) {
+	if isLong(format) || len(args) > limit.MaxArgs || slices.ContainsFunc(args, isLong) {
+		return "", ErrLong
+	}
+	values := make([]value.Value, len(args))
+	for i, arg := range args {
+		values[i] = value.Read(arg)
+	}
+	text, err := layout.Make(format, values)
+	switch {
+	case errors.Is(err, layout.ErrFormat):
+		return "", ErrFormat
+	case errors.Is(err, layout.ErrText):
+		return "", ErrText
+	}
+	return text, OK
+}
+
+// Print writes a program out in one way (P7 to P9).
+func Print(program string) (string, Errno, int) { return "", OK, 0 }
+
+// Run runs a program over an input (P10 to P20).
+func Run(program string, input string, fuel int) ([]Stream, int, Errno, int) { return nil, 0, OK, 0 }

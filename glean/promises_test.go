@@ -1,0 +1,207 @@
+package glean_test
+
+import (
+	"math"
+	"math/rand"
+	"slices"
+	"strings"
+	"sync"
+	"testing"
+	"unsafe"
+
+	"glean/glean"
+)
+
+const maxText = 500
+
+// allBytes answers a text of the 256 bytes, in rising order.
+func allBytes() string {
+	all := make([]byte, 256)
+	for i := range all {
+		all[i] = byte(i)
+	}
+	return string(all)
+}
+
+func TestErrnoNumbers(t *testing.T) {
+	names := []glean.Errno{
+		glean.OK, glean.ErrLong, glean.ErrForm, glean.ErrUse, glean.ErrFuel, glean.ErrZero,
+		glean.ErrField, glean.ErrRegex, glean.ErrText, glean.ErrDeep, glean.ErrFormat, glean.ErrOut,
+	}
+	for i, e := range names {
+		if int(e) != i {
+			t.Errorf("the constant number %d is %d", i, e)
+		}
+	}
+}
+
+// randomText makes a text of bytes that mean something to patterns and
+// formats, and now and then of any byte.
+func randomText(r *rand.Rand, most int) string {
+	const special = `ab0159 -+*?.|()[]^$\%dxcs` + "\t\n\x00\xff"
+	text := make([]byte, r.Intn(most+1))
+	for i := range text {
+		if text[i] = special[r.Intn(len(special))]; r.Intn(20) == 0 {
+			text[i] = byte(r.Intn(256))
+		}
+	}
+	return string(text)
+}
+
+func checkRefusedMatch(t *testing.T, at int, n int, e glean.Errno) {
+	t.Helper()
+	if e != glean.OK && (at != 0 || n != 0) {
+		t.Fatalf("P1: with the error %d Match answers %d, %d", e, at, n)
+	}
+}
+
+func TestP1AnyTextsEndWithoutPanic(t *testing.T) {
+	r := rand.New(rand.NewSource(1))
+	for round := range 20000 {
+		most := 12
+		if round%100 == 0 {
+			most = maxText + 1
+		}
+		first, second := randomText(r, most), randomText(r, most)
+		at, n, e := glean.Match(first, second)
+		checkRefusedMatch(t, at, n, e)
+		if e == glean.OK && (at < -1 || n < 0 || at+n > len(second)) {
+			t.Fatalf("P1: Match(%q, %q) = %d, %d", first, second, at, n)
+		}
+		if list, e := glean.Split(first, second); e != glean.OK && (list == nil || len(list) != 0) {
+			t.Fatalf("P1: Split(%q, %q) = %q, %d", first, second, list, e)
+		}
+		args := make([]string, r.Intn(15))
+		for i := range args {
+			args[i] = randomText(r, most)
+		}
+		if text, e := glean.Format(first, args); e != glean.OK && text != "" {
+			t.Fatalf("P1: Format(%q, %q) = %q, %d", first, args, text, e)
+		}
+	}
+}
+
+func TestP1OddArguments(t *testing.T) {
+	if text, e := glean.Format("%d", nil); text != "0" || e != glean.OK {
+		t.Errorf("P1: Format without a list = %q, %d", text, e)
+	}
+	for _, fuel := range []int{math.MinInt, -1, 0, 1, math.MaxInt} {
+		glean.Run(allBytes(), allBytes(), fuel)
+	}
+	glean.Print(allBytes())
+	huge := strings.Repeat("(", 1<<24)
+	if at, n, e := glean.Match(huge, huge); at != 0 || n != 0 || e != glean.ErrLong {
+		t.Errorf("P1: Match of huge texts = %d, %d, %d", at, n, e)
+	}
+	if list, e := glean.Split(huge, huge); list == nil || len(list) != 0 || e != glean.ErrLong {
+		t.Errorf("P1: Split of huge texts = %q, %d", list, e)
+	}
+	if text, e := glean.Format(huge, []string{huge}); text != "" || e != glean.ErrLong {
+		t.Errorf("P1: Format of huge texts = %q, %d", text, e)
+	}
+}
+
+// Patterns on which a search that tries one way after the other never ends.
+func TestP1HardPatternsEnd(t *testing.T) {
+	text := strings.Repeat("a", maxText)
+	for _, pattern := range []string{
+		"(a*)*b",
+		"((a+)+)+$b",
+		"(a|a)*b",
+		"(a|aa|aaa)*b",
+		strings.Repeat("a?", 100) + strings.Repeat("a", 100) + "b",
+		strings.Repeat("(", 120) + "a" + strings.Repeat(")*", 120) + "b",
+		"a" + strings.Repeat("*", 498) + "b",
+		strings.Repeat(".*", 249) + "b",
+		"(" + strings.Repeat("a|", 240) + "a)*b",
+	} {
+		if at, n, e := glean.Match(pattern, text); at != -1 || n != 0 || e != glean.OK {
+			t.Errorf("P1: Match(%q, ..) = %d, %d, %d", pattern, at, n, e)
+		}
+		if list, e := glean.Split(text, pattern); len(list) != 1 || list[0] != text || e != glean.OK {
+			t.Errorf("P1: Split(.., %q) = %q, %d", pattern, list, e)
+		}
+	}
+	open := strings.Repeat("(", maxText)
+	if _, _, e := glean.Match(open, text); e != glean.ErrRegex {
+		t.Errorf("P1: Match of open brackets: %d", e)
+	}
+}
+
+func TestP1HandedInIsNotChanged(t *testing.T) {
+	args := []string{" 12 ", "-7", "xyz", "", "9223372036854775808"}
+	kept := slices.Clone(args)
+	glean.Format("%d %x %c %s %05d %s", args)
+	glean.Format("%q", args)
+	if !slices.Equal(args, kept) {
+		t.Errorf("P1: the arguments were %q, are %q", kept, args)
+	}
+}
+
+// sharesMemory tells whether a piece lies within the memory of a text.
+func sharesMemory(piece string, text string) bool {
+	if piece == "" || text == "" {
+		return false
+	}
+	from := uintptr(unsafe.Pointer(unsafe.StringData(text)))
+	at := uintptr(unsafe.Pointer(unsafe.StringData(piece)))
+	return from <= at && at < from+uintptr(len(text))
+}
+
+func TestP1AnswersAreNew(t *testing.T) {
+	text := "first,second  third"
+	for _, separator := range []string{" ", ",", "[, ]+", "qq", "q"} {
+		list, _ := glean.Split(text, separator)
+		for _, piece := range list {
+			if sharesMemory(piece, text) {
+				t.Errorf("P1: Split by %q: the piece %q is a part of the text", separator, piece)
+			}
+		}
+		before := slices.Clone(list)
+		list[0] = "changed"
+		_ = append(list[:1], "changed too")
+		if again, _ := glean.Split(text, separator); !slices.Equal(again, before) {
+			t.Errorf("P1: Split by %q: first %q, then %q", separator, before, again)
+		}
+	}
+	args := []string{"a text that is long"}
+	if made, _ := glean.Format("%s", args); sharesMemory(made, args[0]) {
+		t.Error("P1: Format's answer is its argument")
+	}
+	if made, _ := glean.Format(text, nil); sharesMemory(made, text) {
+		t.Error("P1: Format's answer is its format")
+	}
+}
+
+func TestP2NothingIsKept(t *testing.T) {
+	check := func() {
+		if at, n, e := glean.Match("b+", "abbbc"); at != 1 || n != 3 || e != glean.OK {
+			t.Errorf("P2: Match = %d, %d, %d", at, n, e)
+		}
+		if list, e := glean.Split("a12b", "[0-9]+"); !slices.Equal(list, []string{"a", "b"}) || e != glean.OK {
+			t.Errorf("P2: Split = %q, %d", list, e)
+		}
+		if text, e := glean.Format("%05d|%-4s|%x", []string{"-42", "ab", "255"}); text != "-0042|ab  |ff" || e != glean.OK {
+			t.Errorf("P2: Format = %q, %d", text, e)
+		}
+	}
+	r := rand.New(rand.NewSource(2))
+	for range 500 {
+		check()
+		first, second := randomText(r, 20), randomText(r, 20)
+		glean.Match(first, second)
+		glean.Split(first, second)
+		glean.Format(first, []string{second})
+	}
+	var side sync.WaitGroup
+	for range 8 {
+		side.Add(1)
+		go func() {
+			defer side.Done()
+			for range 200 {
+				check()
+			}
+		}()
+	}
+	side.Wait()
+}
