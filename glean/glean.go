@@ -7,9 +7,13 @@ import (
 
 	"glean/layout"
 	"glean/limit"
+	"glean/parser"
 	"glean/patterns"
 	"glean/pieces"
+	"glean/tree"
+	"glean/usage"
 	"glean/value"
+	"glean/writer"
 )
 
 // Errno is what a call answers: OK, the reason for a refusal, or why a run ended early.
@@ -80,7 +84,29 @@ func Format(format string, args []string) (string, Errno) {
 }
 
 // Print writes a program out in one way (P7 to P9).
-func Print(program string) (string, Errno, int) { return "", OK, 0 }
+func Print(program string) (string, Errno, int) {
+	read, e, place := readProgram(program)
+	if e != OK {
+		return "", e, place
+	}
+	return writer.Write(read), OK, 0
+}
+
+// readProgram makes a tree of a program; with an error it answers the place
+// too.
+func readProgram(program string) (tree.Program, Errno, int) {
+	if len(program) > limit.MaxProgram {
+		return tree.Program{}, ErrLong, 0
+	}
+	read, place, ok := parser.Read(program)
+	if !ok {
+		return tree.Program{}, ErrForm, place
+	}
+	if place, wrong := usage.LeastWrong(read); wrong {
+		return tree.Program{}, ErrUse, place
+	}
+	return read, OK, 0
+}
 
 // Run runs a program over an input (P10 to P20).
 func Run(program string, input string, fuel int) ([]Stream, int, Errno, int) { return nil, 0, OK, 0 }

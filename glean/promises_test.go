@@ -81,6 +81,55 @@ func TestP1AnyTextsEndWithoutPanic(t *testing.T) {
 	}
 }
 
+// randomProgram makes a text of a program's tokens and of things that look
+// like some.
+func randomProgram(r *rand.Rand) string {
+	parts := []string{
+		"BEGIN", "END", "function", "if", "else", "while", "for", "in", "print", "next", "exit", "return", "break",
+		"continue", "delete",
+		"length(", "substr", "index", "split(", "sub(", "gsub", "match", "toupper", "tolower", "sprintf",
+		"||", "&&", "!~", "<=", "==", "!=", ">=", "+=", "-=", "*=", "/=", "%=",
+		"{", "}", "(", ")", "[", "]", ";", ",", "+", "-", "*", "/", "%", "!", ">", "<", "~", "?", ":", "=", "$",
+		"{", "}", "(", ")", ";", ",", "x", "y", "a[1]", "f(", "f", "NR", "1", "007", "\"s\"", "/p/", "/(/", "1x",
+		"\"", "\\", "#", "\n", "@", "|", "\x00", "\xff",
+		"{ x = 1 }", "function f(x, a[]) { return x }", "for (k in a)", "for (;;)", "if (x)", "while (x)", "print x", "f(x)",
+	}
+	var b strings.Builder
+	for range r.Intn(20) {
+		b.WriteString(parts[r.Intn(len(parts))])
+		b.WriteString([]string{"", " ", " ", "\t"}[r.Intn(4)])
+	}
+	return b.String()
+}
+
+func TestP1AnyProgramEndsWithoutPanic(t *testing.T) {
+	r := rand.New(rand.NewSource(3))
+	for range 50000 {
+		program := randomProgram(r)
+		text, e, at := glean.Print(program)
+		switch {
+		case e == glean.OK && at == 0, e == glean.ErrLong && at == 0 && text == "":
+		case e == glean.ErrForm && 0 <= at && at <= len(program) && text == "":
+			checkCanGoOn(t, program[:at])
+		case e == glean.ErrUse && 0 <= at && at < len(program) && text == "":
+		default:
+			t.Fatalf("P1: Print(%q) = %q, %d, %d", program, text, e, at)
+		}
+	}
+	for _, program := range []string{allBytes(), "{ print \"" + strings.Repeat("\xff", 500) + "\" }", strings.Repeat("/", maxProgram), strings.Repeat("\\", maxProgram)} {
+		glean.Print(program)
+	}
+}
+
+// checkCanGoOn holds Print to it that a text with which a program was said to
+// be able to go on is a program, or ends too early.
+func checkCanGoOn(t *testing.T, text string) {
+	t.Helper()
+	if _, e, at := glean.Print(text); e == glean.ErrForm && at != len(text) {
+		t.Fatalf("P7: Print(%q): the error 2 at %d", text, at)
+	}
+}
+
 func TestP1OddArguments(t *testing.T) {
 	if text, e := glean.Format("%d", nil); text != "0" || e != glean.OK {
 		t.Errorf("P1: Format without a list = %q, %d", text, e)
@@ -88,8 +137,10 @@ func TestP1OddArguments(t *testing.T) {
 	for _, fuel := range []int{math.MinInt, -1, 0, 1, math.MaxInt} {
 		glean.Run(allBytes(), allBytes(), fuel)
 	}
-	glean.Print(allBytes())
 	huge := strings.Repeat("(", 1<<24)
+	if text, e, at := glean.Print(huge); text != "" || e != glean.ErrLong || at != 0 {
+		t.Errorf("P1: Print of a huge text = %q, %d, %d", text, e, at)
+	}
 	if at, n, e := glean.Match(huge, huge); at != 0 || n != 0 || e != glean.ErrLong {
 		t.Errorf("P1: Match of huge texts = %d, %d, %d", at, n, e)
 	}
@@ -164,6 +215,10 @@ func TestP1AnswersAreNew(t *testing.T) {
 			t.Errorf("P1: Split by %q: first %q, then %q", separator, before, again)
 		}
 	}
+	written, _, _ := glean.Print("{ print; } ")
+	if again, _, _ := glean.Print(written); again != written || sharesMemory(again, written) {
+		t.Errorf("P1: Print's answer %q is its argument", again)
+	}
 	args := []string{"a text that is long"}
 	if made, _ := glean.Format("%s", args); sharesMemory(made, args[0]) {
 		t.Error("P1: Format's answer is its argument")
@@ -184,10 +239,17 @@ func TestP2NothingIsKept(t *testing.T) {
 		if text, e := glean.Format("%05d|%-4s|%x", []string{"-42", "ab", "255"}); text != "-0042|ab  |ff" || e != glean.OK {
 			t.Errorf("P2: Format = %q, %d", text, e)
 		}
+		if text, e, at := glean.Print("{ x = 1 }"); text != "{ (x = 1); } " || e != glean.OK || at != 0 {
+			t.Errorf("P2: Print = %q, %d, %d", text, e, at)
+		}
+		if text, e, at := glean.Print("{ x[1] = y }"); text != "{ (x[1] = y); } " || e != glean.OK || at != 0 {
+			t.Errorf("P2: Print = %q, %d, %d", text, e, at)
+		}
 	}
 	r := rand.New(rand.NewSource(2))
 	for range 500 {
 		check()
+		glean.Print(randomProgram(r))
 		first, second := randomText(r, 20), randomText(r, 20)
 		glean.Match(first, second)
 		glean.Split(first, second)

@@ -2,6 +2,7 @@
 package limit
 
 const (
-	MaxText = 500 // bytes of a text
-	MaxArgs = 12  // arguments of a format
+	MaxProgram = 600 // bytes of a program
+	MaxText    = 500 // bytes of a text
+	MaxArgs    = 12  // arguments of a format
 )
