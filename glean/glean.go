@@ -5,11 +5,14 @@ import (
 	"errors"
 	"slices"
 
+	"glean/fault"
 	"glean/layout"
 	"glean/limit"
 	"glean/parser"
 	"glean/patterns"
 	"glean/pieces"
+	"glean/run"
+	"glean/streams"
 	"glean/tree"
 	"glean/usage"
 	"glean/value"
@@ -74,13 +77,30 @@ func Format(format string, args []string) (string, Errno) {
 		values[i] = value.Read(arg)
 	}
 	text, err := layout.Make(format, values)
+	return text, errnoOf(err)
+}
+
+// errnoOf answers the number of an error.
+func errnoOf(err error) Errno {
 	switch {
-	case errors.Is(err, layout.ErrFormat):
-		return "", ErrFormat
-	case errors.Is(err, layout.ErrText):
-		return "", ErrText
+	case errors.Is(err, fault.ErrFuel):
+		return ErrFuel
+	case errors.Is(err, fault.ErrZero):
+		return ErrZero
+	case errors.Is(err, fault.ErrField):
+		return ErrField
+	case errors.Is(err, fault.ErrRegex):
+		return ErrRegex
+	case errors.Is(err, fault.ErrText):
+		return ErrText
+	case errors.Is(err, fault.ErrDeep):
+		return ErrDeep
+	case errors.Is(err, fault.ErrFormat):
+		return ErrFormat
+	case errors.Is(err, fault.ErrOut):
+		return ErrOut
 	}
-	return text, OK
+	return OK
 }
 
 // Print writes a program out in one way (P7 to P9).
@@ -109,4 +129,22 @@ func readProgram(program string) (tree.Program, Errno, int) {
 }
 
 // Run runs a program over an input (P10 to P20).
-func Run(program string, input string, fuel int) ([]Stream, int, Errno, int) { return nil, 0, OK, 0 }
+func Run(program string, input string, fuel int) ([]Stream, int, Errno, int) {
+	if len(input) > limit.MaxInput || fuel < 0 || fuel > limit.MaxFuel {
+		return []Stream{}, 0, ErrLong, 0
+	}
+	read, e, place := readProgram(program)
+	if e != OK {
+		return []Stream{}, 0, e, place
+	}
+	outcome := run.Run(read, input, fuel)
+	return streamsOf(outcome.Streams), outcome.Code, errnoOf(outcome.Reason), 0
+}
+
+func streamsOf(list []streams.Stream) []Stream {
+	made := make([]Stream, len(list))
+	for i, s := range list {
+		made[i] = Stream{Name: s.Name, Text: string(s.Text)}
+	}
+	return made
+}

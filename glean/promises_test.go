@@ -130,12 +130,69 @@ func checkCanGoOn(t *testing.T, text string) {
 	}
 }
 
+// checkSound holds what Run answers to what it can be at all.
+func checkSound(t *testing.T, program, input string, fuel int) {
+	t.Helper()
+	streams, code, e, place := glean.Run(program, input, fuel)
+	refused := e == glean.ErrLong || e == glean.ErrForm || e == glean.ErrUse
+	sound := code == 0 || e == glean.OK && 0 < code && code < 256
+	if refused {
+		sound = sound && streams != nil && len(streams) == 0
+	} else {
+		sound = sound && place == 0 && len(streams) > 0 && streams[0].Name == ""
+	}
+	size, names := 0, map[string]bool{}
+	for _, s := range streams {
+		size += len(s.Text)
+		sound = sound && !names[s.Name]
+		names[s.Name] = true
+	}
+	if !sound || size > 4000 {
+		t.Fatalf("P1: Run(%q, %q, %d) = %q, %d, %d, %d", program, input, fuel, streams, code, e, place)
+	}
+}
+
+func TestP1AnyRunEndsWithoutPanic(t *testing.T) {
+	r := rand.New(rand.NewSource(4))
+	s := speller{r: r}
+	for range 20000 {
+		program := s.text(s.program().loose)
+		if r.Intn(4) == 0 {
+			program = randomProgram(r)
+		}
+		checkSound(t, program, randomText(r, 60), r.Intn(maxFuel+2)-1)
+	}
+}
+
+// Programs that do as much as they can.
+func TestP1HardRunsEnd(t *testing.T) {
+	input := strings.Repeat("a ", 20) + strings.Repeat("\n", 300)
+	for _, program := range []string{
+		`{ while (1) ; }`,
+		`BEGIN { for (;;) for (;;) x = x }`,
+		`function f() { return f() f() } BEGIN { while (1) f() }`,
+		`function f(n) { return n ? f(n - 1) f(n - 1) : 1 } BEGIN { while (1) f(14) }`,
+		`BEGIN { while (1) a[i += 1] a[i += 1] a[i += 1] a[i += 1] a[i += 1] a[i += 1] a[i += 1] }`,
+		`BEGIN { while (1) { a[i += 1]; for (k in a) break; split("", b); delete c } }`,
+		`BEGIN { x = sprintf("%99s%99s%99s%99s%99s"); while (1) gsub(/( *b)?/, "&", x) }`,
+		`BEGIN { x = sprintf("%99s%99s%99s%99s%99s"); while (1) gsub(/( *)*$|b/, "&", x) }`,
+		`{ $40 = "x"; for (;;) NF = 40 - NF }`,
+		`function f(a[]) { } BEGIN { while (1) f() f() f() f() f() f() f() f() f() f() f() f() f() f() f() f() f() f() f() f() }`,
+		`BEGIN { ` + strings.Repeat("-", 500) + `1 }`,
+		strings.Repeat("(", 290) + "1" + strings.Repeat(")", 290) + ";",
+		`BEGIN ` + strings.Repeat("{", 290) + strings.Repeat("}", 290),
+	} {
+		checkSound(t, program, input, maxFuel)
+	}
+}
+
 func TestP1OddArguments(t *testing.T) {
 	if text, e := glean.Format("%d", nil); text != "0" || e != glean.OK {
 		t.Errorf("P1: Format without a list = %q, %d", text, e)
 	}
 	for _, fuel := range []int{math.MinInt, -1, 0, 1, math.MaxInt} {
-		glean.Run(allBytes(), allBytes(), fuel)
+		checkSound(t, allBytes(), allBytes(), fuel)
+		checkSound(t, `{ print $1 > $1 } END { print NR, NF }`, allBytes(), fuel)
 	}
 	huge := strings.Repeat("(", 1<<24)
 	if text, e, at := glean.Print(huge); text != "" || e != glean.ErrLong || at != 0 {
@@ -219,12 +276,30 @@ func TestP1AnswersAreNew(t *testing.T) {
 	if again, _, _ := glean.Print(written); again != written || sharesMemory(again, written) {
 		t.Errorf("P1: Print's answer %q is its argument", again)
 	}
+	checkRunIsNew(t, `BEGIN { ORS = ""; print "a text of the program"; print "another one" > "a stream of the program" } { print; print > $0; print $0 > $1 }`, "a-line-of-the-input")
 	args := []string{"a text that is long"}
 	if made, _ := glean.Format("%s", args); sharesMemory(made, args[0]) {
 		t.Error("P1: Format's answer is its argument")
 	}
 	if made, _ := glean.Format(text, nil); sharesMemory(made, text) {
 		t.Error("P1: Format's answer is its format")
+	}
+}
+
+func checkRunIsNew(t *testing.T, program, input string) {
+	t.Helper()
+	streams, _, _, _ := glean.Run(program, input, 99)
+	for _, s := range streams {
+		for _, text := range []string{s.Name, s.Text} {
+			if sharesMemory(text, program) || sharesMemory(text, input) {
+				t.Errorf("P1: Run's answer %q is a part of an argument", text)
+			}
+		}
+	}
+	kept := slices.Clone(streams)
+	streams[0] = glean.Stream{Name: "changed", Text: "changed"}
+	if again, _, _, _ := glean.Run(program, input, 99); len(again) != 3 || !slices.Equal(again, kept) {
+		t.Errorf("P1: Run answers first %q, then %q", kept, again)
 	}
 }
 
@@ -242,14 +317,19 @@ func TestP2NothingIsKept(t *testing.T) {
 		if text, e, at := glean.Print("{ x = 1 }"); text != "{ (x = 1); } " || e != glean.OK || at != 0 {
 			t.Errorf("P2: Print = %q, %d, %d", text, e, at)
 		}
+		checkOutcome(t, "P2", `BEGIN { print x "<" FS ">"; FS = ","; x = 1 } NR == 1, 0 { a[$1] = NF } END { for (k in a) print k, a[k]; exit 3 }`, "a b,c\nd", 99,
+			outcome{mainStream("< >\na b 2\nd 1\n"), 3, glean.OK})
+		checkOutcome(t, "P2", `function f() { f() } { print NR > "f"; f() }`, "a", 99, outcome{[]glean.Stream{{"", ""}, {"f", "1\n"}}, 0, glean.ErrDeep})
 		if text, e, at := glean.Print("{ x[1] = y }"); text != "{ (x[1] = y); } " || e != glean.OK || at != 0 {
 			t.Errorf("P2: Print = %q, %d, %d", text, e, at)
 		}
 	}
 	r := rand.New(rand.NewSource(2))
+	s := speller{r: r}
 	for range 500 {
 		check()
 		glean.Print(randomProgram(r))
+		glean.Run(s.text(s.program().loose), "a b\nc", 200)
 		first, second := randomText(r, 20), randomText(r, 20)
 		glean.Match(first, second)
 		glean.Split(first, second)

@@ -599,3 +599,30 @@ func TestP8AnyProgram(t *testing.T) {
 		t.Errorf("only %d programs were short enough, and %d when written out", taken, again)
 	}
 }
+
+// A program that was written out does the same as the one it was made of, up
+// to the last step.
+func TestP9DoesTheSame(t *testing.T) {
+	s := speller{r: rand.New(rand.NewSource(9))}
+	ends := map[glean.Errno]int{}
+	for range 20000 {
+		program := s.program()
+		text := s.text(program.loose)
+		if len(text) > maxProgram || len(program.strict) > maxProgram {
+			continue
+		}
+		input := s.one("", "a", "a b\n1 2\n", "0\n\n42 a /\na")
+		fuel := s.r.Intn(s.r.Intn(maxFuel) + 1)
+		want := runOf(t, text, input, fuel)
+		ends[want.e]++
+		checkOutcome(t, "P9", program.strict, input, fuel, want)
+		if t.Failed() {
+			return
+		}
+	}
+	for _, e := range []glean.Errno{glean.OK, glean.ErrFuel, glean.ErrZero, glean.ErrField} {
+		if ends[e] < 50 {
+			t.Errorf("only %d programs end with the error %d", ends[e], e)
+		}
+	}
+}

@@ -2,21 +2,16 @@
 package layout
 
 import (
-	"errors"
 	"strings"
 
+	"glean/fault"
 	"glean/limit"
 	"glean/value"
 )
 
-// Why no text is made.
-var (
-	ErrFormat = errors.New("a % with which no item begins")
-	ErrText   = errors.New("a text that has grown too long")
-)
-
 // Make makes the format's text, each item in the place of the next value
-// (nothing yet, if there is none left).
+// (nothing yet, if there is none left); else it answers fault.ErrFormat or
+// fault.ErrText.
 func Make(format string, args []value.Value) (string, error) {
 	made := []byte{}
 	for at := 0; at < len(format); {
@@ -30,7 +25,7 @@ func Make(format string, args []value.Value) (string, error) {
 		default:
 			i, next, ok := readItem(format, at+1)
 			if !ok {
-				return "", ErrFormat
+				return "", fault.ErrFormat
 			}
 			var arg value.Value
 			if len(args) > 0 {
@@ -40,7 +35,7 @@ func Make(format string, args []value.Value) (string, error) {
 			at = next
 		}
 		if len(made) > limit.MaxText {
-			return "", ErrText
+			return "", fault.ErrText
 		}
 	}
 	return string(made), nil

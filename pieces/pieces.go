@@ -21,7 +21,7 @@ func Cut(text string, separator string) ([]string, bool) {
 	if !ok {
 		return []string{}, false
 	}
-	return betweenMatches(text, p), true
+	return BetweenMatches(text, p), true
 }
 
 func betweenBlanks(text string) []string {
@@ -54,7 +54,8 @@ func betweenBytes(text string, separator byte) []string {
 	return c.rest()
 }
 
-func betweenMatches(text string, p patterns.Pattern) []string {
+// BetweenMatches answers the pieces between the matches that are not empty.
+func BetweenMatches(text string, p patterns.Pattern) []string {
 	c := start(text)
 	for {
 		at, length := p.FindFilled(text, c.from)

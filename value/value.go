@@ -1,6 +1,11 @@
-// Package value holds what a program works with: nothing yet, texts, and
-// numerals (texts that were read and spell a number).
+// Package value holds what a program works with: nothing yet, numbers, texts,
+// and numerals (texts that were read and spell a number).
 package value
+
+import (
+	"cmp"
+	"strconv"
+)
 
 // A kind says which sort of value a Value is.
 type kind int
@@ -8,6 +13,7 @@ type kind int
 // kindNothing is 0, so that the zero Value is nothing yet.
 const (
 	kindNothing kind = iota
+	kindNumber
 	kindText
 	kindNumeral
 )
@@ -17,6 +23,20 @@ type Value struct {
 	kind   kind
 	number int64
 	text   string
+}
+
+// OfNumber makes a value of a number.
+func OfNumber(number int64) Value { return Value{kind: kindNumber, number: number} }
+
+// OfText makes a value of a text that was not read.
+func OfText(text string) Value { return Value{kind: kindText, text: text} }
+
+// OfTruth makes a 1 or a 0.
+func OfTruth(is bool) Value {
+	if is {
+		return OfNumber(1)
+	}
+	return OfNumber(0)
 }
 
 // Read makes a value of a text that was read: a numeral, if it spells a
@@ -33,7 +53,12 @@ func Read(s string) Value {
 func (v Value) IsText() bool { return v.kind == kindText }
 
 // Text answers the value's text.
-func (v Value) Text() string { return v.text }
+func (v Value) Text() string {
+	if v.kind == kindNumber {
+		return strconv.FormatInt(v.number, 10)
+	}
+	return v.text
+}
 
 // Number answers the value's number.
 func (v Value) Number() int64 {
@@ -42,6 +67,23 @@ func (v Value) Number() int64 {
 		return number
 	}
 	return v.number
+}
+
+// IsTrue tells whether the value is taken as true.
+func (v Value) IsTrue() bool {
+	if v.IsText() {
+		return v.text != ""
+	}
+	return v.number != 0
+}
+
+// Compare answers a number below 0, 0 or a number above 0, as the first value
+// is below the second one, the same or above it.
+func Compare(a Value, b Value) int {
+	if a.IsText() || b.IsText() {
+		return cmp.Compare(a.Text(), b.Text())
+	}
+	return cmp.Compare(a.number, b.number)
 }
 
 // IsBlank tells whether a byte is one of the language's blanks.
