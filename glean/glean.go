@@ -49,7 +49,7 @@ func Match(pattern string, text string) (int, int, Errno) {
 	if !ok {
 		return 0, 0, ErrRegex
 	}
-	at, length := p.Find(text, 0)
+	at, length := p.Find(text)
 	return at, length, OK
 }
 

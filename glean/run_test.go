@@ -159,6 +159,8 @@ func TestP11Streams(t *testing.T) {
 		{`BEGIN { print 1 > " "; print 2 > "\n" }`, []glean.Stream{{"", ""}, {" ", "1\n"}, {"\n", "2\n"}}},
 		{`{ print NR > $1 } END { print "end" > "b" }`, []glean.Stream{{"", ""}, {"b", "1\n3\nend\n"}, {"a", "2\n"}}},
 		{`{ print > $0 $1 }`, []glean.Stream{{"", ""}, {"bb", "b\nb\n"}, {"aa", "a\n"}}},
+		// What is put out may be the empty text.
+		{`BEGIN { ORS = ""; print "" > "g"; print 1 > "f"; print 2 > "g" } END { print x > "h" }`, []glean.Stream{{"", ""}, {"g", "2"}, {"f", "1"}, {"h", ""}}},
 	} {
 		checkOutcome(t, "P11", c.program, "b\na\nb", maxFuel, outcome{c.want, 0, glean.OK})
 	}

@@ -9,11 +9,12 @@ const (
 	needBegin                  // the text's beginning
 	needEnd                    // the text's end
 	fork                       // nothing; there are two ways on
-	done                       // nothing; here a match ends
+	done                       // nothing; here a match begins
 )
 
 // A state is a place within a pattern. A search follows all the ways through
-// the states side by side, so that no pattern makes it try again and again.
+// the states side by side, so that no pattern makes it try again and again; it
+// goes from a match's end to its beginning, and so do the states.
 type state struct {
 	kind  stateKind
 	set   byteSet
@@ -24,7 +25,7 @@ type state struct {
 // A Pattern is made by Read.
 type Pattern struct {
 	states []state
-	first  int
+	last   int // the state at which a match ends
 }
 
 // Read makes a pattern of its text; false, if the text is none.
@@ -34,7 +35,7 @@ func Read(text string) (Pattern, bool) {
 		return Pattern{}, false
 	}
 	var p Pattern
-	p.first = p.build(tree, p.add(state{kind: done}))
+	p.last = p.build(tree, p.add(state{kind: done}))
 	return p, true
 }
 
@@ -45,7 +46,7 @@ func (p *Pattern) add(s state) int {
 }
 
 // build makes the states of a node, from which it goes on to next, and
-// answers the one at which the node begins.
+// answers the one at which the node ends, for there a search comes to it.
 func (p *Pattern) build(n node, next int) int {
 	switch n.kind {
 	case oneOf:
@@ -65,28 +66,27 @@ func (p *Pattern) build(n node, next int) int {
 }
 
 func (p *Pattern) buildRow(parts []node, next int) int {
-	for i := len(parts) - 1; i >= 0; i-- {
-		next = p.build(parts[i], next)
+	for _, part := range parts {
+		next = p.build(part, next)
 	}
 	return next
 }
 
 func (p *Pattern) buildChoice(parts []node, next int) int {
-	last := len(parts) - 1
-	begin := p.build(parts[last], next)
-	for i := last - 1; i >= 0; i-- {
-		begin = p.add(state{kind: fork, next: p.build(parts[i], next), other: begin})
+	end := p.build(parts[0], next)
+	for _, part := range parts[1:] {
+		end = p.add(state{kind: fork, next: p.build(part, next), other: end})
 	}
-	return begin
+	return end
 }
 
 // buildLoop makes a fork that goes round through the node's part or on.
 func (p *Pattern) buildLoop(n node, next int) int {
 	loop := p.add(state{kind: fork, other: next})
-	begin := p.build(n.parts[0], loop)
-	p.states[loop].next = begin
+	end := p.build(n.parts[0], loop)
+	p.states[loop].next = end
 	if n.kind == oneOrMore {
-		return begin
+		return end
 	}
 	return loop
 }

@@ -37,7 +37,7 @@ func lacksUnit(text string) bool {
 // it; and its matches are the same.
 func TestAgainstRegexp(t *testing.T) {
 	texts := []string{"", "a", "b", "ab", "ba", "aab", "abab", "bbaab"}
-	eachText("ab.*+?|()^$", 4, func(pattern string) {
+	eachText("ab.*+?|()^$", 5, func(pattern string) {
 		p, ok := Read(pattern)
 		want, err := regexp.CompilePOSIX(pattern)
 		if wantOk := err == nil && !lacksUnit(pattern); ok != wantOk {
@@ -48,7 +48,7 @@ func TestAgainstRegexp(t *testing.T) {
 			return
 		}
 		for _, text := range texts {
-			at, length := p.Find(text, 0)
+			at, length := p.Find(text)
 			place := want.FindStringIndex(text)
 			if place == nil {
 				place = []int{-1, -1}
@@ -113,34 +113,31 @@ func endsFromAll(n node, text string, places map[int]bool) map[int]bool {
 	return found
 }
 
-// longest answers what Find must, with matches of at least so many bytes.
-func longest(n node, text string, from int, least int) (int, int) {
-	for at := from; at <= len(text); at++ {
-		found := ends(n, text, at)
-		for end := len(text); end >= at+least; end-- {
-			if found[end] {
-				return at, end - at
-			}
+// longest answers the length of the longest match from a place on, or -1.
+func longest(n node, text string, at int) int {
+	found := ends(n, text, at)
+	for end := len(text); end >= at; end-- {
+		if found[end] {
+			return end - at
 		}
 	}
-	return -1, 0
+	return -1
 }
 
-func checkFinds(t *testing.T, pattern string, texts []string) {
+func checkLongest(t *testing.T, pattern string, texts []string) {
 	tree, ok := readTree(pattern)
 	if !ok {
 		return
 	}
 	p, _ := Read(pattern)
 	for _, text := range texts {
-		for from := range len(text) + 1 {
-			at, length := p.Find(text, from)
-			if wantAt, want := longest(tree, text, from, 0); at != wantAt || length != want {
-				t.Errorf("Find(%q, %q, %d) = %d, %d, want %d, %d", pattern, text, from, at, length, wantAt, want)
-			}
-			at, length = p.FindFilled(text, from)
-			if wantAt, want := longest(tree, text, from, 1); at != wantAt || length != want {
-				t.Errorf("FindFilled(%q, %q, %d) = %d, %d, want %d, %d", pattern, text, from, at, length, wantAt, want)
+		lengths := p.Longest(text)
+		if len(lengths) != len(text)+1 {
+			t.Fatalf("Longest(%q, %q) = %d", pattern, text, lengths)
+		}
+		for at, length := range lengths {
+			if want := longest(tree, text, at); length != want {
+				t.Errorf("Longest(%q, %q) at %d: %d, want %d", pattern, text, at, length, want)
 			}
 		}
 	}
@@ -148,9 +145,9 @@ func checkFinds(t *testing.T, pattern string, texts []string) {
 
 func TestAgainstMeaning(t *testing.T) {
 	texts := []string{"", "a", "ab", "abbab"}
-	eachText("ab*+?|()^$", 4, func(pattern string) { checkFinds(t, pattern, texts) })
+	eachText("ab*+?|()^$", 5, func(pattern string) { checkLongest(t, pattern, texts) })
 	texts = []string{"", "b-]", `^a\b[`}
-	eachText(`ab[]^-\*`, 5, func(pattern string) { checkFinds(t, pattern, texts) })
+	eachText(`ab[]^-\*`, 5, func(pattern string) { checkLongest(t, pattern, texts) })
 }
 
 func TestStatesGrowWithThePattern(t *testing.T) {

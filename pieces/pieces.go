@@ -57,13 +57,12 @@ func betweenBytes(text string, separator byte) []string {
 // BetweenMatches answers the pieces between the matches that are not empty.
 func BetweenMatches(text string, p patterns.Pattern) []string {
 	c := start(text)
-	for {
-		at, length := p.FindFilled(text, c.from)
-		if at < 0 {
-			return c.rest()
+	for at, length := range p.Longest(text) {
+		if at >= c.from && length > 0 {
+			c.cut(at, at+length)
 		}
-		c.cut(at, at+length)
 	}
+	return c.rest()
 }
 
 // A cutter holds a text's own bytes, so that no piece shares memory with the

@@ -10,7 +10,7 @@ import (
 // First replaces the first match, and answers how many there were too: 1 or
 // 0. The text that is made may grow too long: fault.ErrText.
 func First(p patterns.Pattern, text string, with string) (string, int, error) {
-	at, length := p.Find(text, 0)
+	at, length := p.Find(text)
 	if at < 0 {
 		return text, 0, nil
 	}
@@ -25,36 +25,25 @@ func First(p patterns.Pattern, text string, with string) (string, int, error) {
 
 // All replaces all matches, and answers how many there were too.
 func All(p patterns.Pattern, text string, with string) (string, int, error) {
+	lengths := p.Longest(text)
 	var made []byte
 	count := 0
-	from := 0  // what stands ahead of this place is done
 	last := -1 // where the last match ended
-	for from <= len(text) {
-		at, length := p.Find(text, from)
-		if at < 0 {
-			break
-		}
-		made = append(made, text[from:at]...)
-		from = at + length
-		if length > 0 || at != last {
-			made = appendReplacement(made, with, text[at:from])
+	for at := 0; at <= len(text); {
+		length := lengths[at]
+		if length > 0 || length == 0 && at != last {
+			made = appendReplacement(made, with, text[at:at+length])
 			count++
-			last = from
+			at += length
+			last = at
 		}
-		if length == 0 {
+		if length <= 0 {
 			made = append(made, text[at:min(at+1, len(text))]...)
-			from = at + 1
+			at++
 		}
-		if len(made) > limit.MaxText {
+		if count > 0 && len(made) > limit.MaxText {
 			return "", 0, fault.ErrText
 		}
-	}
-	if count == 0 {
-		return text, 0, nil
-	}
-	made = append(made, text[min(from, len(text)):]...)
-	if len(made) > limit.MaxText {
-		return "", 0, fault.ErrText
 	}
 	return string(made), count, nil
 }

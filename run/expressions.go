@@ -86,7 +86,7 @@ func (k *maker) bare(e tree.Pattern) expression {
 }
 
 func hasMatch(p patterns.Pattern, text string) bool {
-	at, _ := p.Find(text, 0)
+	at, _ := p.Find(text)
 	return at >= 0
 }
 

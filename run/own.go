@@ -116,7 +116,7 @@ func (k *maker) matching(args []tree.Expr) expression {
 	text, pattern := k.expr(args[0]), k.pattern(args[1])
 	return expression{work: func(m *machine.Machine) value.Value {
 		in := text.work(m).Text()
-		at, length := pattern(m).Find(in, 0)
+		at, length := pattern(m).Find(in)
 		if at < 0 {
 			length = -1
 		}
